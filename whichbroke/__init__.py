@@ -1,0 +1,1 @@
+"""Whichbroke: which parts of a work can have broken."""
