@@ -82,6 +82,18 @@ def slow_rows(work, look, broken):
     return fitting
 
 
+def random_work(chance):
+    """An ordinary work, small enough for the second opinion."""
+    ring = chance.choice([2, 2, 3, 3, 4, 5])
+    inputs = chance.randint(1, 6)
+    many = chance.randint(1, {2: 8, 3: 6, 4: 5, 5: 4}[ring])
+    parts = []
+    for number in range(many):
+        word, takes = chance.choice([("sum", 2), ("stop", 2), ("pick", 3), ("not", 1)])
+        parts.append((word, *[chance.randrange(inputs + number) for _ in range(takes)]))
+    return (ring, inputs, parts)
+
+
 def some_looks(work, pick):
     """A few looks at a work: none, one, some and all of its lines seen; pick(n) chooses below n."""
     ring, inputs, parts = work

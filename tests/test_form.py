@@ -11,14 +11,26 @@ INTERFACE = {
     "works.py": ["need_work", "given_of", "need_given", "need_look", "need_set"],
     "running.py": ["ran"],
     "rooms.py": ["room", "rooms", "shown"],
+    "leastsets.py": ["least_sets"],
+    "clashing.py": ["clash", "clashes"],
+    "searching.py": ["Search"],
+    "notes.py": ["written", "read"],
 }
 
 PARAMETERS = {
     "need_work": ["thing"], "given_of": ["part", "digits", "ring"], "need_given": ["work", "thing"],
     "need_look": ["work", "thing"], "need_set": ["work", "thing"], "ran": ["work", "given", "told"],
     "room": ["work", "look", "broken"], "rooms": ["work", "looks", "broken"],
-    "shown": ["work", "look", "broken", "line"],
+    "shown": ["work", "look", "broken", "line"], "least_sets": ["work", "looks"],
+    "clash": ["work", "looks", "broken"], "clashes": ["work", "looks"], "written": ["work"], "read": ["text"],
 }
+
+METHODS = {
+    "__init__": ["self", "work"], "look": ["self", "given", "seen"], "see": ["self", "number", "line", "digit"],
+    "back": ["self"], "looks": ["self"], "sets": ["self"], "next_line": ["self", "number"],
+}
+
+LIBRARY = {"itertools": {"combinations", "permutations", "product"}}
 
 
 def files():
@@ -41,6 +53,15 @@ class FormTest(unittest.TestCase):
                 if word in PARAMETERS:
                     self.assertEqual([each.arg for each in defined[word].args.args], PARAMETERS[word])
 
+    def test_each_method_of_a_search_is_defined_in_its_class(self):
+        tree = ast.parse((PACKAGE / "searching.py").read_text("utf-8"))
+        bodies = [node.body for node in tree.body if isinstance(node, ast.ClassDef) and node.name == "Search"]
+        self.assertEqual(len(bodies), 1)
+        defined = {node.name: [each.arg for each in node.args.args]
+                   for node in bodies[0] if isinstance(node, ast.FunctionDef)}
+        for name, parameters in METHODS.items():
+            self.assertEqual(defined.get(name), parameters, name)
+
     def test_sizes_and_signs(self):
         for path in files():
             text = path.read_text("utf-8")
@@ -58,7 +79,10 @@ class FormTest(unittest.TestCase):
                 self.assertNotIsInstance(node, ast.Import, path)
                 if isinstance(node, ast.ImportFrom):
                     self.assertEqual(node.level, 0, path)
-                    self.assertTrue(node.module.startswith("whichbroke."), path)
+                    if node.module in LIBRARY:
+                        self.assertLessEqual({each.name for each in node.names}, LIBRARY[node.module], path)
+                    else:
+                        self.assertTrue(node.module.startswith("whichbroke."), path)
 
 
 if __name__ == "__main__":

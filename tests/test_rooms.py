@@ -4,26 +4,14 @@ import random
 import unittest
 
 from tests.refusing import RefusingTest
-from tests.samples import (all_sets, called, sample_works, slow_rows, small_work, some_looks, wrong_lines, wrong_looks,
-                           wrong_sets)
+from tests.samples import (all_sets, called, random_work, sample_works, slow_rows, small_work, some_looks, wrong_lines,
+                           wrong_looks, wrong_sets)
 from whichbroke.errors import BadLook, BadSet, NoLine
 from whichbroke.rooms import room, rooms, shown
 
 # At the small work, these inputs and this digit of line 5 clash with all parts whole.
 ODD = ((1, 2), ((5, 2),))
 EVEN = ((1, 2), ((5, 0),))
-
-
-def random_work(chance):
-    """An ordinary work, small enough for the second opinion."""
-    ring = chance.choice([2, 2, 3, 3, 4, 5])
-    inputs = chance.randint(1, 6)
-    many = chance.randint(1, {2: 8, 3: 6, 4: 5, 5: 4}[ring])
-    parts = []
-    for number in range(many):
-        word, takes = chance.choice([("sum", 2), ("stop", 2), ("pick", 3), ("not", 1)])
-        parts.append((word, *[chance.randrange(inputs + number) for _ in range(takes)]))
-    return (ring, inputs, parts)
 
 
 class RoomTest(RefusingTest):
