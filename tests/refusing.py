@@ -11,7 +11,7 @@ class RefusingTest(unittest.TestCase):
     def refused(self, error, call, *handed):
         """The call raises just this error, not one of another class."""
         # What is handed in is shown by its kind alone, for some of it cannot be shown.
-        shown_as = [thing.__class__.__name__ for thing in handed]
+        shown_as = [type(thing).__name__ for thing in handed]
         try:
             call(*handed)
         except WorkError as caught:

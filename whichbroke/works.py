@@ -7,22 +7,23 @@ TAKES = {"sum": 2, "stop": 2, "pick": 3, "not": 1}
 
 def is_whole(thing, low, high):
     """Whether a thing is a whole number from low to high."""
-    # isinstance would let True and False pass, and numbers that compare in their own way.
-    return type(thing) == int and low <= thing <= high
+    # Of all tests of a kind only "is" asks nothing of a thing: a kind may answer == in its own
+    # way, and isinstance goes by what a thing says of its class, and lets True and False pass.
+    return type(thing) is int and low <= thing <= high
 
 
 def is_tuple_of(thing, length):
     """Whether a thing is a tuple of so many."""
-    return type(thing) == tuple and len(thing) == length
+    return type(thing) is tuple and len(thing) == length
 
 
 def is_part(thing, line):
     """Whether a thing is a part that can give this line."""
-    if type(thing) != tuple or len(thing) == 0:
+    if type(thing) is not tuple or len(thing) == 0:
         return False
     word = thing[0]
     # A word is looked up only once it is a string: a list, say, cannot be looked up.
-    if type(word) != str or word not in TAKES:
+    if type(word) is not str or word not in TAKES:
         return False
     return len(thing) == TAKES[word] + 1 and all([is_whole(taken, 0, line - 1) for taken in thing[1:]])
 
@@ -34,7 +35,7 @@ def is_work(thing):
     ring, inputs, parts = thing
     if not is_whole(ring, 2, 5) or not is_whole(inputs, 1, 6):
         return False
-    if type(parts) != list or not 1 <= len(parts) <= 10:
+    if type(parts) is not list or not 1 <= len(parts) <= 10:
         return False
     return all([is_part(part, inputs + number) for number, part in enumerate(parts)])
 
@@ -73,7 +74,7 @@ def rises(numbers):
 
 def is_seen(work, thing):
     """Whether a thing is a tuple of pairs whose lines rise."""
-    if type(thing) != tuple or not all([is_pair(work, pair) for pair in thing]):
+    if type(thing) is not tuple or not all([is_pair(work, pair) for pair in thing]):
         return False
     return rises([pair[0] for pair in thing])
 
@@ -86,7 +87,7 @@ def is_look(work, thing):
 def is_set(work, thing):
     """Whether a thing is a set of parts of the work."""
     highest = len(work[2]) - 1
-    if type(thing) != tuple or not all([is_whole(number, 0, highest) for number in thing]):
+    if type(thing) is not tuple or not all([is_whole(number, 0, highest) for number in thing]):
         return False
     return rises(thing)
 
